@@ -1,0 +1,1 @@
+"""Fewspaces: parts of spaces over few numbers."""

@@ -1,0 +1,48 @@
+"""Whole numbers and rows, as the other modules need them: none of it refuses anything."""
+
+
+def is_whole(thing, least, greatest):
+    """Whether a thing, anything, is a whole number from least to greatest."""
+    # Python counts True and False among the ints; here they are no numbers.
+    return isinstance(thing, int) and not isinstance(thing, bool) and least <= thing <= greatest
+
+
+def is_rising(things):
+    """Whether each thing is greater than the one ahead."""
+    return all([one < other for one, other in zip(things, things[1:])])
+
+
+def head_of(row):
+    """The first place that isn't 0; None of a row of noughts."""
+    for place, number in enumerate(row):
+        if number != 0:
+            return place
+    return None
+
+
+def times(p, row, number):
+    """The row times the number."""
+    return tuple([number * mine % p for mine in row])
+
+
+def plus_times(p, row, other, number):
+    """The row, with the other one times the number added."""
+    return tuple([(mine + number * its) % p for mine, its in zip(row, other)])
+
+
+def inverse(p, number):
+    """What comes to 1 with the number multiplied; the number isn't 0."""
+    found = 1
+    while found * number % p != 1:
+        found += 1
+    return found
+
+
+def cleared(p, row, other, head):
+    """The row, with so many times the other one (1 at its head) taken away that it has 0 there."""
+    return plus_times(p, row, other, -row[head])
+
+
+def noughts_at(rows, place):
+    """Whether all rows have 0 at the place."""
+    return all([row[place] == 0 for row in rows])
