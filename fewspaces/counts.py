@@ -1,7 +1,7 @@
 """Parts counted, numbered, and told by their heads."""
 
 from fewspaces.errors import NoHeads, NoNumber
-from fewspaces.rows import head_of, is_rising, is_whole, noughts_at
+from fewspaces.rows import head_of, is_rising_tuple, is_whole, noughts_at
 from fewspaces.spaces import is_base, need_part
 
 MOST_BOX_PLACES = 40
@@ -90,18 +90,11 @@ def heads(space, part):
 
 def with_heads(space, places):
     """All parts with just these heads, a rising list."""
-    if not are_places(space, places):
+    p, n = space
+    if not is_rising_tuple(places, n - 1):
         raise NoHeads("this is no rising tuple of places of the space")
     parts = [()]
     for place in places:
         headed = rows_headed(space, place)
         parts = [part + (row,) for part in parts if noughts_at(part, place) for row in headed]
     return parts
-
-
-def are_places(space, thing):
-    """Whether a thing, anything, is a rising tuple of places of the space."""
-    p, n = space
-    if not isinstance(thing, tuple):
-        return False
-    return all([is_whole(place, 0, n - 1) for place in thing]) and is_rising(thing)

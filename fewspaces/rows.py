@@ -12,6 +12,13 @@ def is_rising(things):
     return all([one < other for one, other in zip(things, things[1:])])
 
 
+def is_rising_tuple(thing, greatest):
+    """Whether a thing, anything, is a rising tuple of whole numbers from 0 to greatest, perhaps none."""
+    if not isinstance(thing, tuple):
+        return False
+    return all([is_whole(number, 0, greatest) for number in thing]) and is_rising(thing)
+
+
 def head_of(row):
     """The first place that isn't 0; None of a row of noughts."""
     for place, number in enumerate(row):
@@ -41,6 +48,11 @@ def inverse(p, number):
 def cleared(p, row, other, head):
     """The row, with so many times the other one (1 at its head) taken away that it has 0 there."""
     return plus_times(p, row, other, -row[head])
+
+
+def are_against(p, row, other):
+    """Whether the products of the two rows' numbers, place by place, come to 0 added."""
+    return sum([mine * its for mine, its in zip(row, other)]) % p == 0
 
 
 def noughts_at(rows, place):

@@ -56,16 +56,27 @@ def need_part(space, thing):
         raise NoPart("this is no part of the space")
 
 
+def need_parts(space, one, other):
+    """Refuses two things of which either is no part of the space."""
+    need_part(space, one)
+    need_part(space, other)
+
+
 def spanned(space, rows):
     """The least part that holds all rows of a tuple or list."""
     if not isinstance(rows, (tuple, list)):
         raise NoRow("rows stand in a tuple or a list")
     for row in rows:
         need_row(space, row)
-    part = ()
+    return widened_by_all(space, (), rows)
+
+
+def widened_by_all(space, part, rows):
+    """The least part that holds the rows and all that the part holds."""
+    wider = part
     for row in rows:
-        part = widened(space, part, row)
-    return part
+        wider = widened(space, wider, row)
+    return wider
 
 
 def widened(space, part, row):
@@ -94,6 +105,11 @@ def holds(space, part, row):
     """Whether the part holds the row."""
     need_part(space, part)
     need_row(space, row)
+    return has_row(space, part, row)
+
+
+def has_row(space, part, row):
+    """Whether the part holds the row; both are known to be what they are told to be."""
     return head_of(left_over(space, part, row)) is None
 
 

@@ -1,11 +1,15 @@
 """What the tests have in common: things of anything, refusals, and sums done anew, by the words of the document."""
 
+from copy import deepcopy
+from inspect import signature
 from itertools import product
 
 from fewspaces import errors
+from fewspaces.counts import all_parts
 
 SPACES = [(2, n) for n in range(1, 7)] + [(3, n) for n in range(1, 5)] + [(5, n) for n in range(1, 4)]
 SMALL = [(2, 1), (2, 2), (2, 3), (3, 1), (3, 2), (5, 1), (5, 2)]
+MIDDLE = [(2, 4), (3, 3), (5, 3)]
 REFUSALS = ["NoRow", "NoPart", "NoNumber", "NoHeads", "NotBeside", "NotIn", "NoTurn", "NoLot", "TooMany", "BadNote"]
 
 # None of these is a space, a row, a part, a tuple of places or a whole number of any bounds in use.
@@ -18,6 +22,11 @@ ODD = [
     (((1, 0), (0, 1)),), ((((((),),),),),), ((((([2],),),),),), [[[[[[]]]]]], [0] * 999, (0,) * 999, (1,) * 999,
     {k: None for k in range(400)}, ((),), ((), ()),
 ]
+
+# No whole numbers of the bounds in use.
+NO_NUMBERS = [True, False, None, "", "0", "1", [], [0], (), (0,), {}, {0: 1}, -1, -(10 ** 29), 10 ** 29]
+# None of these is a part of (2, 2).
+NO_PARTS = [((0, 1), (1, 0)), ((0, 0),), ((1, 1), (0, 1)), ((1, 0), (1, 0)), [(1, 0)], ([1, 0],), ((1, 0, 0),), ((2, 0),)]
 
 
 def refused(case, error, deed, *things):
@@ -68,6 +77,53 @@ def parts_by_words(space):
     p, n = space
     rows = rows_in(space)
     return {size: [some for some in product(rows, repeat=size) if is_part_by_words(some)] for size in range(n + 1)}
+
+
+def parts_by_lots(space):
+    """All parts of a small space, those of lesser size ahead: a dict by the lots of rows that they hold."""
+    return {closure(space, part): part for parts in parts_by_words(space).values() for part in parts}
+
+
+def lots_by_parts(space):
+    """The lot of rows that each part of a space holds: a dict by the parts, those of lesser size ahead."""
+    return {part: closure(space, part) for size in range(space[1] + 1) for part in all_parts(space, size)}
+
+
+def refused_without_two_parts(case, deed, *more):
+    """The deed of two parts is refused with NoPart where either, or both, is none of (2, 2), whatever comes behind."""
+    for thing in ODD + NO_PARTS:
+        before = deepcopy(thing)
+        for part in [(), ((1, 0),), ((1, 1),), ((1, 0), (0, 1))]:
+            refused(case, errors.NoPart, deed, (2, 2), thing, part, *more)
+            refused(case, errors.NoPart, deed, (2, 2), part, thing, *more)
+        refused(case, errors.NoPart, deed, (2, 2), thing, thing, *more)
+        refused(case, errors.NoPart, deed, (2, 2), thing, None, *more)
+        case.assertEqual(thing, before)
+
+
+def refused_without_part(case, deed):
+    """The deed of a part is refused with NoPart where it is none of (2, 2)."""
+    for thing in ODD + NO_PARTS:
+        before = deepcopy(thing)
+        refused(case, errors.NoPart, deed, (2, 2), thing)
+        case.assertEqual(thing, before)
+
+
+def arguments(deed):
+    """What the deed calls its arguments."""
+    return list(signature(deed).parameters)
+
+
+def the_askers_own(case, deed, *things):
+    """Lists that are told are never one, and one that was changed is told anew as it was."""
+    one, other = deed(*things), deed(*things)
+    case.assertIs(type(one), list)
+    case.assertIsNot(one, other)
+    case.assertEqual(one, other)
+    kept = tuple(one)
+    one.clear()
+    other.append("more")
+    case.assertEqual(deed(*things), list(kept))
 
 
 def whole_part(space):

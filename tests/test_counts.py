@@ -1,13 +1,11 @@
 import inspect
 import unittest
 
-from common import ODD, SMALL, SPACES, first_place, is_part_by_words, parts_by_words, refused, rising_tuples, whole_part
+from common import (NO_NUMBERS, NO_PARTS, ODD, SMALL, SPACES, first_place, is_part_by_words, parts_by_words, refused,
+                    rising_tuples, whole_part)
 from fewspaces import counts
 from fewspaces.counts import all_parts, box, heads, number_of, part_of, with_heads
 from fewspaces.errors import NoHeads, NoNumber, NoPart
-
-NO_NUMBERS = [True, False, None, "", "0", "1", [], [0], (), (0,), {}, {0: 1}, -1, -(10 ** 29), 10 ** 29]
-NO_PARTS = [((0, 1), (1, 0)), ((0, 0),), ((1, 1), (0, 1)), ((1, 0), (1, 0)), [(1, 0)], ([1, 0],), ((1, 0, 0),), ((2, 0),)]
 
 
 def box_by_product(p, n, k):
