@@ -2,7 +2,7 @@
 
 from fewspaces.counts import all_parts
 from fewspaces.errors import NotBeside
-from fewspaces.rows import plus_times
+from fewspaces.rows import plus_times, power
 from fewspaces.spaces import has_row, need_part, need_parts, need_row, rows_of, widened_by_all
 
 
@@ -30,6 +30,12 @@ def all_beside(space, part):
     need_part(space, part)
     p, n = space
     return [other for other in all_parts(space, n - len(part)) if do_miss(space, part, other)]
+
+
+def many_beside(space, part):
+    """How many parts are beside the part, which is known to be one."""
+    p, n = space
+    return power(p, len(part) * (n - len(part)))
 
 
 def parted(space, one, other, row):

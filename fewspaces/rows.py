@@ -19,12 +19,25 @@ def is_rising_tuple(thing, greatest):
     return all([is_whole(number, 0, greatest) for number in thing]) and is_rising(thing)
 
 
+def power(number, many):
+    """The number multiplied with itself so many times; 1 where that is none."""
+    found = 1
+    for k in range(many):
+        found *= number
+    return found
+
+
 def head_of(row):
     """The first place that isn't 0; None of a row of noughts."""
     for place, number in enumerate(row):
         if number != 0:
             return place
     return None
+
+
+def one_at(n, place):
+    """The row of n numbers that has 1 at the place, and 0 at the others."""
+    return (0,) * place + (1,) + (0,) * (n - place - 1)
 
 
 def times(p, row, number):

@@ -29,6 +29,14 @@ NO_NUMBERS = [True, False, None, "", "0", "1", [], [0], (), (0,), {}, {0: 1}, -1
 NO_PARTS = [((0, 1), (1, 0)), ((0, 0),), ((1, 1), (0, 1)), ((1, 0), (1, 0)), [(1, 0)], ([1, 0],), ((1, 0, 0),), ((2, 0),)]
 
 
+# None of these is a turn of (2, 2): of too few rows and too many, of rows that span too little, of other kinds within.
+NO_TURNS = [
+    (), ((1, 0),), ((1, 0), (0, 1), (1, 1)), ((1, 0), (1, 0)), ((1, 0), (0, 0)), ((0, 0), (0, 0)), [(1, 0), (0, 1)],
+    ([1, 0], (0, 1)), ((1, 0), [0, 1]), ((1, 0), (0, 2)), ((1, 0), (0, -1)), ((1, 0), (0, True)), ((1, 0), (0, 1, 0)),
+    ((1, 0), (1,)), ((1, 0), ()), "10/01",
+]
+
+
 def refused(case, error, deed, *things):
     """The deed is refused with just this class, and none of the others."""
     with case.assertRaises(ValueError, msg=repr((deed.__name__, things))) as caught:
@@ -152,3 +160,36 @@ def some_rows(space, many, seed):
             row.append(at // 65536 % p)
         found.append(tuple(row))
     return found
+
+
+def led_by_words(space, turn, row):
+    """The turn's rows, each times the number at its place in the row, added."""
+    p, n = space
+    return tuple(sum(row[k] * turn[k][j] for k in range(n)) % p for j in range(n))
+
+
+def turns_by_words(space):
+    """All turns of a small space, found by going through all tuples of n rows."""
+    p, n = space
+    return [rows for rows in product(rows_in(space), repeat=n) if len(closure(space, rows)) == p ** n]
+
+
+def some_turns(space, many):
+    """So many turns of the space, the same each time: that which leads each row to itself, and others."""
+    p, n = space
+    found = [whole_part(space)]
+    seed = 0
+    while len(found) < many:
+        rows = tuple(some_rows(space, n, seed))
+        if len(closure(space, rows)) == p ** n:
+            found.append(rows)
+        seed += 1
+    return found
+
+
+def refused_without_turn(case, deed, *more):
+    """The deed of a turn is refused with NoTurn where it is none of (2, 2), whatever comes behind."""
+    for thing in ODD + NO_TURNS:
+        before = deepcopy(thing)
+        refused(case, errors.NoTurn, deed, (2, 2), thing, *more)
+        case.assertEqual(thing, before)

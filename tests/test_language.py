@@ -16,7 +16,10 @@ WORDS = ["type", "typing", "typing_extensions", "enum", "Enum", "IntEnum", "StrE
          "Protocol", "ABC", "ABCMeta", "namedtuple", "NamedTuple", "TypedDict", "TYPE_CHECKING", "abstractmethod"]
 OUT = (ast.GeneratorExp, ast.NamedExpr, ast.With, ast.Global, ast.Nonlocal, ast.Yield, ast.YieldFrom, ast.Await,
        ast.AsyncFunctionDef, ast.Import, ast.Match, ast.Div, ast.MatMult)
-METHODS = {"append", "extend", "index", "count", "get", "items", "insert", "join", "keys", "pop", "split", "values"}
+METHODS = {"append", "extend", "index", "count", "get", "items", "insert", "join", "keys", "pop", "split", "values", "find",
+           "add"}
+# Methods and values of the package's own classes.
+OWN_METHODS = {"say", "meant", "space", "parts"}
 
 
 def nodes(file):
@@ -96,7 +99,7 @@ class Language(unittest.TestCase):
                 if isinstance(node, ast.Call) and isinstance(node.func, ast.Name):
                     self.assertIn(node.func.id, known, file.name)
                 if isinstance(node, ast.Attribute):
-                    self.assertIn(node.attr, METHODS, file.name)
+                    self.assertIn(node.attr, METHODS | OWN_METHODS, file.name)
 
 
 def top_names(file):
